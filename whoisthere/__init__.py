@@ -1,0 +1,1 @@
+"""Who's there, whole: machines that ask one another who's there."""
