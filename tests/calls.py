@@ -27,6 +27,30 @@ def lose(letter):
     return [5, letter]
 
 
+def stop(node):
+    return [6, node]
+
+
+def start(node):
+    return [7, node]
+
+
+def letters():
+    return [8]
+
+
+def node(which):
+    return [9, which]
+
+
+def sees(node):
+    return [10, node]
+
+
+def blames():
+    return [11]
+
+
 def play(*calls):
     """The answers, one list a call, without the counts ahead of them."""
     given = answers([number for call in calls for number in call])

@@ -1,8 +1,9 @@
-"""The six calls: ordinary inputs, refusals at their edges, no world, the interface."""
+"""The calls 0 to 5: ordinary inputs and refusals at their edges; of all calls: no world, the interface."""
 
 import unittest
 
-from tests.calls import begin, firsts, keep, last, lose, play, probe, row_of, take, tick, told_of
+from tests.calls import (begin, blames, firsts, keep, last, letters, lose, node, play, probe, row_of, sees, start,
+                         stop, take, tick, told_of)
 from whoisthere.world import Line, World, answers
 
 
@@ -42,12 +43,18 @@ class Begin(unittest.TestCase):
 
 class NoWorld(unittest.TestCase):
     def test_all_but_begin_are_answered_so(self):
-        for call in (probe(0, 1), tick(0), take(0), keep(0), lose(0)):
+        for call in (probe(0, 1), tick(0), take(0), keep(0), lose(0), stop(0), start(0), letters(), node(0), sees(0),
+                     blames()):
             self.assertEqual(play(call), [[-9]], call)
 
     def test_ahead_of_all_other_refusals(self):
-        for call in (probe(9, 9), probe(1, 1), tick(9), take(200), keep(200), lose(200)):
+        for call in (probe(9, 9), probe(1, 1), tick(9), take(200), keep(200), lose(200), stop(9), start(9), node(9),
+                     sees(9)):
             self.assertEqual(play(call), [[-9]], call)
+
+    def test_a_refused_begin_leaves_it_so(self):
+        for call in (stop(0), start(0), letters(), node(0), sees(0), blames()):
+            self.assertEqual(play(begin(1, 1, 1), call), [[-1], [-9]], call)
 
 
 class Probe(unittest.TestCase):
@@ -162,11 +169,16 @@ class Row(unittest.TestCase):
 
 class Interface(unittest.TestCase):
     CALLS = (begin(3, 1, 2) + probe(0, 1) + tick(0) + keep(0) + take(1) + lose(0) + tick(0) + probe(5, 5)
-             + take(0) + take(0) + begin(9, 9, 9) + tick(0))
+             + take(0) + take(0) + begin(9, 9, 9) + tick(0) + stop(1) + letters() + node(1) + sees(1) + blames()
+             + start(1) + node(5) + sees(5))
 
     def test_counts_stand_ahead_of_what_is_answered(self):
         got = answers(list(self.CALLS))
-        self.assertEqual(got, [1, 0, 1, 1, 1, 1, 1, 1, 1, 4, 1, 0, 1, 2, 1, -1, 1, 5, 1, 1, 1, -1, 1, 3])
+        self.assertEqual(got, [
+            1, 0, 1, 1, 1, 1, 1, 1, 1, 4, 1, 0, 1, 2, 1, -1, 1, 5, 1, 1, 1, -1, 1, 3,
+            1, 0, 12, 1, 1, 2, 1, 1, 0, 0, 0, 0, 0, 0, 0, 15, 0, 0, 0, 0, 0, 0, 0, 0, 0, 0, 0, 0, 0, 0, 0,
+            4, 3, 0, 1, 2, 4, 1, 0, 1, 0, 1, 1, 1, -1, 1, -1,
+        ])
 
     def test_what_is_handed_in_is_not_changed(self):
         calls = list(self.CALLS)

@@ -6,11 +6,18 @@ TICK = 2
 TAKE = 3
 KEEP = 4
 LOSE = 5
+STOP = 6
+START = 7
+LETTERS = 8
+NODE = 9
+SEES = 10
+BLAMES = 11
 
 # How many numbers stand behind the number of each call.
-COUNTS = (3, 2, 1, 1, 1, 1)
+COUNTS = (3, 2, 1, 1, 1, 1, 1, 1, 0, 1, 1, 0)
 
 REFUSED = -1
+IS_SO_ALREADY = -2
 HAS_STOPPED = -3
 NO_WORLD = -9
 
@@ -42,6 +49,13 @@ def counts_for_more(fact, other):
     return fact[1] > other[1]
 
 
+def one_behind_another(parts):
+    numbers = []
+    for part in parts:
+        numbers.extend(part)
+    return numbers
+
+
 class Letter:
     def __init__(self, kind, to, sender, number, whom, facts):
         self.kind = kind
@@ -52,6 +66,9 @@ class Letter:
         # A copy: the letter tells the facts as they were when it was sent.
         self.facts = list(facts)
 
+    def numbers(self):
+        return [self.kind, self.to, self.sender, self.number, self.whom] + one_behind_another(self.facts)
+
 
 class Asking:
     def __init__(self, whom, number, since):
@@ -59,6 +76,9 @@ class Asking:
         self.number = number
         self.since = since
         self.helped = False
+
+    def numbers(self):
+        return [self.whom, self.number, self.since, 1 if self.helped else 0]
 
 
 class Node:
@@ -69,6 +89,10 @@ class Node:
         self.runs = True
         self.own = 0
         self.asked = 0
+        self.forget(count)
+
+    def forget(self, count):
+        """What's in memory is as at first; what's on its disk stays."""
         self.clock = 0
         self.facts = [(0, THERE) for k in range(count)]
         self.since = [0 for k in range(count)]
@@ -76,6 +100,12 @@ class Node:
         # By which number it asks: for whom, and by which number there. A number comes
         # but once, since it only grows, so a dict keeps them all and their order.
         self.for_others = {}
+
+    def begin_anew(self):
+        self.forget(len(self.facts))
+        self.runs = True
+        self.own += 1
+        self.learn(self.me, self.own, THERE)
 
     def has_passed(self, then, much):
         return then + much <= self.clock
@@ -103,6 +133,24 @@ class Node:
             fact = self.facts[whom]
             if fact[1] == SUSPECTED and self.has_passed(self.since[whom], patience):
                 self.learn(whom, fact[0], GONE)
+
+    def numbers(self):
+        told = [1 if self.runs else 0, self.own, self.asked, self.clock]
+        told.extend(one_behind_another(self.facts))
+        told.extend(self.since)
+        if self.asking is None:
+            told.append(0)
+        else:
+            told.append(1)
+            told.extend(self.asking.numbers())
+        told.append(len(self.for_others))
+        for number in self.for_others:
+            errand = self.for_others[number]
+            told.extend([number, errand[0], errand[1]])
+        return told
+
+    def seen(self):
+        return [whom for whom in range(len(self.facts)) if self.facts[whom][1] != GONE]
 
 
 class World:
@@ -213,6 +261,70 @@ class World:
         self.send(node, ASK, letter.whom, node.asked, NOT_TOLD)
         return ANOTHER_ASKED
 
+    def stop_node(self, k):
+        if not self.has_node(k):
+            return REFUSED
+        node = self.nodes[k]
+        if not node.runs:
+            return IS_SO_ALREADY
+        # What it had in memory is told on as it was, until it begins anew.
+        node.runs = False
+        return 0
+
+    def start_node(self, k):
+        if not self.has_node(k):
+            return REFUSED
+        node = self.nodes[k]
+        if node.runs:
+            return IS_SO_ALREADY
+        node.begin_anew()
+        return node.own
+
+    def tell_letters(self):
+        return [len(self.row)] + one_behind_another([letter.numbers() for letter in self.row])
+
+    def tell_node(self, k):
+        if not self.has_node(k):
+            return [REFUSED]
+        return self.nodes[k].numbers()
+
+    def tell_seen(self, k):
+        if not self.has_node(k):
+            return [REFUSED]
+        seen = self.nodes[k].seen()
+        return [len(seen)] + seen
+
+    def tell_blames(self):
+        return [len(self.blamed)] + one_behind_another(self.blamed)
+
+
+def change(world, call, told):
+    """The one number that is answered to a call which changes the world."""
+    if call == PROBE:
+        return world.probe(told[0], told[1])
+    if call == TICK:
+        return world.tick(told[0])
+    if call == TAKE:
+        return world.take(told[0])
+    if call == KEEP:
+        return world.keep(told[0])
+    if call == LOSE:
+        return world.lose(told[0])
+    if call == STOP:
+        return world.stop_node(told[0])
+    return world.start_node(told[0])
+
+
+def tell(world, call, told):
+    """The numbers that are answered to a call which changes nothing."""
+    if call == LETTERS:
+        return world.tell_letters()
+    if call == NODE:
+        return world.tell_node(told[0])
+    if call == SEES:
+        return world.tell_seen(told[0])
+    return world.tell_blames()
+
 
 class Line:
     """The calls of one list; there's no world until begin makes one."""
@@ -230,18 +342,11 @@ class Line:
         """What is answered to one call: its numbers, the first one first."""
         if call == BEGIN:
             return [self.begin(told[0], told[1], told[2])]
-        world = self.world
-        if world is None:
+        if self.world is None:
             return [NO_WORLD]
-        if call == PROBE:
-            return [world.probe(told[0], told[1])]
-        if call == TICK:
-            return [world.tick(told[0])]
-        if call == TAKE:
-            return [world.take(told[0])]
-        if call == KEEP:
-            return [world.keep(told[0])]
-        return [world.lose(told[0])]
+        if call < LETTERS:
+            return [change(self.world, call, told)]
+        return tell(self.world, call, told)
 
 
 def answers(calls):
